@@ -1,0 +1,1 @@
+"""Poolbook: tables of several houses, as one."""
