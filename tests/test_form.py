@@ -10,6 +10,9 @@ PACKAGE = pathlib.Path(__file__).resolve().parent.parent / "poolbook"
 FUNCTIONS = {
     "houses": {"are_houses": 1, "are_likes": 2, "kinds": 2, "odd_kinds": 2},
     "ties": {"is_book": 1, "tied": 1, "reasons": 3, "way": 3, "things": 1, "odd_things": 1},
+    "least": {"fewest_likes": 2, "fewest_ties": 1},
+    "tables": {"are_rules": 2, "one_table": 2, "at_odds": 1},
+    "whys": {"why": 4, "sure": 4},
 }
 CLASSES = ["PoolError", "TooMany", "Odd", "NoThing", "NoKind", "NoName", "Taken", "NoColumns", "Full", "NoHouse",
            "NoRow", "NoColumn", "Same", "NoKey"]

@@ -6,42 +6,8 @@ import random
 import unittest
 
 from poolbook.ties import is_book, odd_things, reasons, things, tied, way
-from samples import ANYTHING, BOOK, CUTS, HOUSES, KEYS, LIKES, TIES, at_place, put, spoilt, stirred
-
-
-def call(text):
-    """A column house.name or a row house.id."""
-    house, part = text.split(".")
-    return (house, int(part) if part.isdigit() else part)
-
-
-def calls(text):
-    """A tuple of columns or rows."""
-    return tuple([call(part) for part in text.split()])
-
-
-def pairs(text):
-    """A rising tuple of pairs that are written one-other."""
-    return tuple(sorted([calls(part.replace("-", " ")) for part in text.split()]))
-
-
-def table(columns, **rows):
-    """A table; rows are told as r3=(..)."""
-    return (tuple(columns.split()), tuple(sorted([(int(name[1:]), row) for name, row in rows.items()])))
-
-
-def bare(rows):
-    """Houses with one column and rows of None, told as calls."""
-    names = sorted(set([house for house, _ in calls(rows)]))
-    return tuple([(name, (("a",), tuple([(number, (None,)) for house, number in sorted(calls(rows)) if house == name])))
-                  for name in names])
-
-
-def book(houses, likes="", keys=(), ties="", cuts=""):
-    """A book of houses, which is checked to be one."""
-    made = (houses, pairs(likes), tuple([calls(key) for key in keys]), pairs(ties), pairs(cuts))
-    assert is_book(made), made
-    return made
+from samples import (ANYTHING, BOOK, CUTS, HOUSES, KEYS, LIKES, TIES, at_place, bare, book, call, calls, chance_book,
+                     pairs, put, spoilt, stirred, table)
 
 
 class IsBook(unittest.TestCase):
@@ -372,25 +338,6 @@ class NewAndUnchanged(unittest.TestCase):
 class ByTheWords(unittest.TestCase):
     """Small books made by chance (always the same), each answer found again by trying all that may be."""
 
-    def made(self, chance):
-        names = ("a", "b", "c")[:chance.randint(2, 3)]
-        worths = (0, 1, 1, "x", None)
-        houses = []
-        for name in names:
-            columns = ("p", "q", "r")[:chance.randint(1, 3)]
-            numbers = sorted(chance.sample(range(4), chance.randint(0, 2)))
-            rows = tuple([(number, tuple([chance.choice(worths) for _ in columns])) for number in numbers])
-            houses.append((name, (columns, rows)))
-        columns = [(name, column) for name, (own, _) in houses for column in own]
-        rows = [(name, number) for name, (_, own) in houses for number, _ in own]
-        keys = [tuple(sorted(chance.sample(columns, chance.randint(1, min(2, len(columns)))))) for _ in range(2)]
-        return (tuple(houses), self.some(chance, columns), tuple(sorted(set(keys))),
-                self.some(chance, rows), self.some(chance, rows))
-
-    def some(self, chance, members):
-        every = [(one, other) for one in members for other in members if one[0] < other[0]]
-        return tuple(sorted(chance.sample(every, chance.randint(0, min(3, len(every))))))
-
     def linked(self, members, links):
         """All pairs of members of which links lead from one to the other."""
         near = {(one, one) for one in members} | set(links) | {(other, one) for one, other in links}
@@ -431,7 +378,7 @@ class ByTheWords(unittest.TestCase):
         chance = random.Random(5)
         seen = {"tied": 0, "odd": 0, "long": 0}
         for _ in range(400):
-            made = self.made(chance)
+            made = chance_book(chance)
             self.assertIs(is_book(made), True)
             columns = [(name, column) for name, (own, _) in made[0] for column in own]
             rows = [(name, number) for name, (_, own) in made[0] for number, _ in own]
