@@ -1,6 +1,6 @@
 """Houses with their tables, and the likes that make kinds of their columns."""
 
-from poolbook.plain import groups, is_name, is_odd, is_pair, is_tuple, is_whole, is_worth, rises
+from poolbook.plain import all_groups, is_name, is_odd, is_pair, is_tuple, is_whole, is_worth, linked, rises
 
 MOST_HOUSES = 4
 MOST_COLUMNS = 5
@@ -73,39 +73,48 @@ def rows_of(houses):
     return [(name, number) for name, (columns, rows) in houses for number, row in rows]
 
 
-def calls_one(members, thing):
-    """Whether anything is one of the members, which are columns or rows."""
-    # To Python 1 == True, so that a truth would be found among ids.
-    if not is_pair(thing) or not (is_name(thing[1]) or is_whole(thing[1])):
+def calls_column(houses, thing):
+    """Whether anything calls a column of the houses."""
+    if not is_pair(thing):
         return False
-    return thing in members
+    house, own = thing
+    return any([name == house and own in columns for name, (columns, rows) in houses])
 
 
-def is_link(members, thing):
-    """Whether anything is a pair of members of unlike houses, the lesser one ahead."""
-    if not is_pair(thing) or not all([calls_one(members, part) for part in thing]):
+def calls_row(houses, thing):
+    """Whether anything calls a row of the houses."""
+    # To Python 1 == True, so that a truth would be found among ids.
+    if not is_pair(thing) or not is_whole(thing[1]):
+        return False
+    house, number = thing
+    return any([name == house and number in dict(rows) for name, (columns, rows) in houses])
+
+
+def is_link(calls, houses, thing):
+    """Whether anything is a pair of what calls parts of unlike houses, the lesser one ahead."""
+    if not is_pair(thing) or not all([calls(houses, part) for part in thing]):
         return False
     one, other = thing
     return one[0] < other[0]
 
 
-def are_links(members, thing):
-    """Whether anything is a rising tuple of such pairs of members: of columns likes, of rows ties or cuts."""
+def are_links(calls, houses, thing):
+    """Whether anything is a rising tuple of such pairs: of columns likes, of rows ties or cuts."""
     if not is_tuple(thing, 0, MOST_LINKS):
         return False
-    return all([is_link(members, pair) for pair in thing]) and rises(thing)
+    return all([is_link(calls, houses, pair) for pair in thing]) and rises(thing)
 
 
 def are_likes(houses, thing):
     """Whether anything is likes of the houses."""
-    return are_links(columns_of(houses), thing)
+    return are_links(calls_column, houses, thing)
 
 
 def kinds(houses, likes):
     """The rising list of all kinds."""
-    return groups(columns_of(houses), likes)
+    return all_groups(columns_of(houses), linked(likes))
 
 
 def odd_kinds(houses, likes):
     """The rising list of the kinds in which two columns of a house are."""
-    return [kind for kind in kinds(houses, likes) if is_odd(kind)]
+    return sorted([kind for kind in linked(likes) if is_odd(kind)])

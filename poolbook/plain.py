@@ -3,6 +3,10 @@
 LONGEST_NAME = 8
 FARTHEST_WORTH = 1000000
 
+# The ends of the order of worths.
+FIRST_WORTH = -1000000
+LAST_WORTH = "zzzzzzzz"
+
 
 def is_whole(thing):
     """Whether anything is a whole number: to Python a truth is an int too, here it is none."""
@@ -30,7 +34,7 @@ def is_tuple(thing, fewest, most):
 
 def is_pair(thing):
     """Whether anything is a tuple of two parts."""
-    return is_tuple(thing, 2, 2)
+    return isinstance(thing, tuple) and len(thing) == 2
 
 
 def rises(members):
@@ -62,21 +66,44 @@ def distances(beside, start):
     return steps
 
 
-def groups(members, pairs):
-    """The rising list of the rising tuples of members that hang together by pairs."""
-    beside = neighbours(members, pairs)
-    placed = {}
-    found = []
-    for member in sorted(members):
-        if member not in placed:
-            group = tuple(sorted(list(distances(beside, member))))
-            found.append(group)
-            for near in group:
-                placed[near] = True
-    return found
+def linked(pairs):
+    """The list, in no order, of the rising tuples of members of pairs that hang together."""
+    group_of = {}
+    started = []
+    for one, other in pairs:
+        if one in group_of:
+            here = group_of[one]
+        else:
+            here = group_of[one] = [one]
+            started.append(here)
+        if other not in group_of:
+            here.append(other)
+            group_of[other] = here
+        elif other not in here:
+            there = group_of[other]
+            here.extend(there)
+            for member in there:
+                group_of[member] = here
+            # It is among the started ones still, and must not be told a second time.
+            there.clear()
+    return [tuple(sorted(group)) for group in started if group]
+
+
+def group_with(found, member):
+    """The one of linked groups in which a member is; without any it is alone."""
+    for group in found:
+        if member in group:
+            return group
+    return (member,)
+
+
+def all_groups(members, found):
+    """The rising list of linked groups and, each alone, of all other ones of the rising members."""
+    first = {group[0]: group for group in found}
+    later = {member: True for group in found for member in group[1:]}
+    return [first.get(member, (member,)) for member in members if member not in later]
 
 
 def is_odd(group):
     """Whether two members of a group, each called (house, ..), are of one house."""
-    names = [member[0] for member in group]
-    return len(set(names)) < len(names)
+    return len({name for name, part in group}) < len(group)

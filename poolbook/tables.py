@@ -1,9 +1,9 @@
 """Rules, and the one table: what is shown of each kind of each thing."""
 
 from poolbook.errors import Odd
-from poolbook.houses import calls_one, columns_of, kinds
-from poolbook.plain import is_name, is_odd, is_pair, is_tuple, rises
-from poolbook.ties import things, told_worths
+from poolbook.houses import calls_column, columns_of, rows_of
+from poolbook.plain import all_groups, is_name, is_odd, is_pair, is_tuple, linked, rises
+from poolbook.ties import linked_rows, told_worths
 
 MOST_CHOICES = 8
 
@@ -54,19 +54,19 @@ def is_trust(names, thing):
     return sorted(thing) == names
 
 
-def is_choice(columns, thing):
-    """Whether anything is a pair of one of the columns and a word."""
-    if not is_pair(thing) or not calls_one(columns, thing[0]):
+def is_choice(houses, thing):
+    """Whether anything is a pair of a column of the houses and a word."""
+    if not is_pair(thing) or not calls_column(houses, thing[0]):
         return False
     # What is no text may not even be looked up.
     return isinstance(thing[1], str) and thing[1] in CHOOSERS
 
 
-def are_choices(columns, thing):
-    """Whether anything is choices for kinds that are called by these columns."""
+def are_choices(houses, thing):
+    """Whether anything is choices for kinds that are called by columns of the houses."""
     if not is_tuple(thing, 0, MOST_CHOICES):
         return False
-    if not all([is_choice(columns, choice) for choice in thing]):
+    if not all([is_choice(houses, choice) for choice in thing]):
         return False
     # Columns are unlike, so they alone decide.
     return rises([column for column, word in thing])
@@ -78,59 +78,81 @@ def are_rules(book, thing):
         return False
     trust, choices = thing
     houses = book[0]
-    return is_trust([name for name, table in houses], trust) and are_choices(columns_of(houses), choices)
+    return is_trust([name for name, table in houses], trust) and are_choices(houses, choices)
+
+
+def refuse_odd(found):
+    """Odd, with the first odd one, where one of linked groups is odd."""
+    odd = [group for group in found if is_odd(group)]
+    if odd:
+        raise Odd(min(odd))
+
+
+def sound_links(book):
+    """The kinds of several columns and the things of several rows, both in no order; Odd where one is odd."""
+    linked_kinds = linked(book[1])
+    refuse_odd(linked_kinds)
+    linked_things = linked_rows(book, linked_kinds)
+    refuse_odd(linked_things)
+    return linked_kinds, linked_things
 
 
 def sound_groups(book):
-    """All kinds and all things of a book; Odd, with the first odd one, where one is odd."""
-    all_kinds = kinds(book[0], book[1])
-    all_things = things(book)
-    odd = [group for group in all_kinds + all_things if is_odd(group)]
-    if odd:
-        raise Odd(odd[0])
-    return all_kinds, all_things
+    """The rising lists of all kinds and of all things of a book; Odd where one is odd."""
+    linked_kinds, linked_things = sound_links(book)
+    houses = book[0]
+    return all_groups(columns_of(houses), linked_kinds), all_groups(rows_of(houses), linked_things)
 
 
 def word_of(choices, kind):
     """The word of a kind's rule."""
-    words = [word for column, word in choices if column in kind]
-    return words[0] if words else "first"
-
-
-def told_by_houses(told, thing):
-    """For each house whose row in the thing tells a worth, of what is told by rows, this worth."""
-    return {row[0]: told[row] for row in thing if row in told}
+    for column, word in choices:
+        if column in kind:
+            return word
+    return "first"
 
 
 def chosen(trust, word, by_house):
-    """The worth that a word chooses of what houses tell, or None."""
-    worths = [by_house[name] for name in trust if name in by_house]
+    """The worth that a word chooses of what houses tell (None tells nothing), or None."""
+    worths = [by_house[name] for name in trust if by_house.get(name) is not None]
     if not worths:
         return None
     choose = CHOOSERS[word]
     return choose(worths)
 
 
+def shown_worths(houses, rules, kind, all_things):
+    """The list of the worths shown, or None, of a kind, one for each of the things."""
+    trust, choices = rules
+    word = word_of(choices, kind)
+    told = told_worths(houses, kind)
+    found = []
+    for thing in all_things:
+        if len(thing) == 1:
+            # By each word what is told alone is shown.
+            found.append(told.get(thing[0]))
+        else:
+            found.append(chosen(trust, word, {row[0]: told.get(row) for row in thing}))
+    return found
+
+
 def one_table(book, rules):
     """The rising list of pairs of a thing and the tuple of the worths shown of it, one for each kind."""
-    trust, choices = rules
     all_kinds, all_things = sound_groups(book)
-    told_of_kinds = [(word_of(choices, kind), told_worths(book[0], kind)) for kind in all_kinds]
-    table = []
-    for thing in all_things:
-        shown = [chosen(trust, word, told_by_houses(told, thing)) for word, told in told_of_kinds]
-        table.append((thing, tuple(shown)))
-    return table
+    shown_of_kinds = [shown_worths(book[0], rules, kind, all_things) for kind in all_kinds]
+    # There is at least one kind, so that this is a row for each thing.
+    rows = list(zip(*shown_of_kinds))
+    return list(zip(all_things, rows))
 
 
 def are_unlike(told, thing):
     """Whether rows of the thing tell unlike worths."""
-    return len(set([told[row] for row in thing if row in told])) > 1
+    return len({told[row] for row in thing if row in told}) > 1
 
 
 def at_odds(book):
     """The rising list of (thing, place of a kind) at which unlike worths are told."""
     all_kinds, all_things = sound_groups(book)
     told_of_kinds = [told_worths(book[0], kind) for kind in all_kinds]
-    cells = [(thing, place) for thing in all_things for place in range(len(all_kinds))]
+    cells = [(thing, place) for thing in all_things if len(thing) > 1 for place in range(len(all_kinds))]
     return [(thing, place) for thing, place in cells if are_unlike(told_of_kinds[place], thing)]

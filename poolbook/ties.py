@@ -1,24 +1,24 @@
 """Books: houses with likes, keys, ties and cuts; which rows are tied, and the things that they make."""
 
-from poolbook.houses import are_houses, are_likes, are_links, calls_one, columns_of, kinds, rows_of
-from poolbook.plain import distances, groups, is_odd, is_tuple, neighbours, rises
+from poolbook.houses import are_houses, are_likes, are_links, calls_column, calls_row, rows_of
+from poolbook.plain import all_groups, distances, group_with, is_odd, is_tuple, linked, neighbours, rises
 
 MOST_KEYS = 3
 MOST_KEY_COLUMNS = 3
 
 
-def is_key(members, thing):
-    """Whether anything is a key by columns that are among the members."""
+def is_key(houses, thing):
+    """Whether anything is a key by columns of the houses."""
     if not is_tuple(thing, 1, MOST_KEY_COLUMNS):
         return False
-    return all([calls_one(members, column) for column in thing]) and rises(thing)
+    return all([calls_column(houses, column) for column in thing]) and rises(thing)
 
 
-def are_keys(members, thing):
-    """Whether anything is keys by columns that are among the members."""
+def are_keys(houses, thing):
+    """Whether anything is keys by columns of the houses."""
     if not is_tuple(thing, 0, MOST_KEYS):
         return False
-    return all([is_key(members, key) for key in thing]) and rises(thing)
+    return all([is_key(houses, key) for key in thing]) and rises(thing)
 
 
 def is_book(thing):
@@ -26,57 +26,83 @@ def is_book(thing):
     if not is_tuple(thing, 5, 5):
         return False
     houses, likes, keys, ties, cuts = thing
-    if not are_houses(houses) or not are_likes(houses, likes):
+    if not are_houses(houses) or not are_likes(houses, likes) or not are_keys(houses, keys):
         return False
-    rows = rows_of(houses)
-    return are_keys(columns_of(houses), keys) and are_links(rows, ties) and are_links(rows, cuts)
+    return are_links(calls_row, houses, ties) and are_links(calls_row, houses, cuts)
 
 
 def told_worths(houses, kind):
-    """For each row that tells a worth of the kind, this worth."""
+    """For each row, in order, that tells a worth of the kind, this worth."""
+    # Of several columns of a house the first one counts, even where it holds None: backwards it is put in last.
+    own = dict(kind[::-1])
     told = {}
     for name, (columns, rows) in houses:
-        places = [place for place, column in enumerate(columns) if (name, column) in kind]
-        # Of several columns of the kind the first one counts, even where it holds None.
-        for place in places[:1]:
+        if name in own:
+            place = columns.index(own[name])
             for number, row in rows:
-                if row[place] is not None:
-                    told[(name, number)] = row[place]
+                worth = row[place]
+                if worth is not None:
+                    told[(name, number)] = worth
     return told
 
 
-def told_by_keys(book):
-    """For each key the list of what is told of each of its kinds."""
+def told_by_key(houses, linked_kinds, key):
+    """For each row, in order, that tells a worth of each of a key's kinds, what it tells of them."""
+    told = told_worths(houses, group_with(linked_kinds, key[0]))
+    for column in key[1:]:
+        more = told_worths(houses, group_with(linked_kinds, column))
+        told = {row: (told[row], more[row]) for row in told if row in more}
+    return told
+
+
+def agreeing_lots(houses, linked_kinds, keys):
+    """The list of the rising lists of rows, not all of one house, that agree by a key."""
+    lots = []
+    for key in keys:
+        by_worths = {}
+        for row, worths in told_by_key(houses, linked_kinds, key).items():
+            if worths in by_worths:
+                by_worths[worths].append(row)
+            else:
+                by_worths[worths] = [row]
+        lots.extend([lot for lot in by_worths.values() if lot[0][0] != lot[-1][0]])
+    return lots
+
+
+def tied_pairs(lots, ties, cuts):
+    """The list, in no order, some of them often, of all tied pairs."""
+    pairs = list(ties)
+    for lot in lots:
+        pairs.extend([(one, other) for one in lot for other in lot if one[0] < other[0]])
+    return [pair for pair in pairs if pair not in cuts]
+
+
+def linked_rows(book, linked_kinds):
+    """The list, in no order, of all things of several rows."""
     houses, likes, keys, ties, cuts = book
-    kind_of = {column: kind for kind in kinds(houses, likes) for column in kind}
-    return [[told_worths(houses, kind_of[column]) for column in key] for key in keys]
-
-
-def agree(told_of_key, one, other):
-    """Whether two rows tell the same worth of each of a key's kinds."""
-    return all([one in told and other in told and told[one] == told[other] for told in told_of_key])
-
-
-def agreeing_keys(told_of_keys, one, other):
-    """The rising list of the places of all keys by which two rows agree."""
-    return [place for place, told_of_key in enumerate(told_of_keys) if agree(told_of_key, one, other)]
+    lots = agreeing_lots(houses, linked_kinds, keys)
+    if cuts:
+        return linked(tied_pairs(lots, ties, cuts))
+    links = list(ties)
+    for lot in lots:
+        # Two rows of one house are not tied, but hang together by those of the other houses of the lot.
+        links.extend([(lot[0], row) for row in lot[1:]])
+    return linked(links)
 
 
 def tied(book):
     """The rising list of all tied pairs, the lesser row ahead."""
     houses, likes, keys, ties, cuts = book
-    told_of_keys = told_by_keys(book)
-    rows = rows_of(houses)
-    pairs = [(one, other) for one in rows for other in rows if one[0] < other[0]]
-    uncut = [pair for pair in pairs if pair not in cuts]
-    return [pair for pair in uncut if pair in ties or agreeing_keys(told_of_keys, pair[0], pair[1])]
+    return sorted(set(tied_pairs(agreeing_lots(houses, linked(likes), keys), ties, cuts)))
 
 
 def reasons(book, one, other):
     """For two rows the places of the keys by which they agree, whether they are a tie, and whether a cut."""
     houses, likes, keys, ties, cuts = book
-    pair = (one, other)
-    return agreeing_keys(told_by_keys(book), one, other), pair in ties, pair in cuts
+    linked_kinds = linked(likes)
+    told_of_keys = [told_by_key(houses, linked_kinds, key) for key in keys]
+    places = [place for place, told in enumerate(told_of_keys) if one in told and told[one] == told.get(other)]
+    return places, (one, other) in ties, (one, other) in cuts
 
 
 def way(book, one, other):
@@ -95,9 +121,9 @@ def way(book, one, other):
 
 def things(book):
     """The rising list of all things."""
-    return groups(rows_of(book[0]), tied(book))
+    return all_groups(rows_of(book[0]), linked_rows(book, linked(book[1])))
 
 
 def odd_things(book):
     """The rising list of the things in which two rows of a house are."""
-    return [thing for thing in things(book) if is_odd(thing)]
+    return sorted([thing for thing in linked_rows(book, linked(book[1])) if is_odd(thing)])
