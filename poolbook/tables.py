@@ -97,13 +97,6 @@ def sound_links(book):
     return linked_kinds, linked_things
 
 
-def sound_groups(book):
-    """The rising lists of all kinds and of all things of a book; Odd where one is odd."""
-    linked_kinds, linked_things = sound_links(book)
-    houses = book[0]
-    return all_groups(columns_of(houses), linked_kinds), all_groups(rows_of(houses), linked_things)
-
-
 def word_of(choices, kind):
     """The word of a kind's rule."""
     for column, word in choices:
@@ -121,28 +114,28 @@ def chosen(trust, word, by_house):
     return choose(worths)
 
 
-def shown_worths(houses, rules, kind, all_things):
-    """The list of the worths shown, or None, of a kind, one for each of the things."""
+def shown_worths(houses, rules, kind, linked_things):
+    """For each thing, called by its first row, of which a worth of the kind is shown, this worth."""
     trust, choices = rules
     word = word_of(choices, kind)
-    told = told_worths(houses, kind)
-    found = []
-    for thing in all_things:
-        if len(thing) == 1:
-            # By each word what is told alone is shown.
-            found.append(told.get(thing[0]))
-        else:
-            found.append(chosen(trust, word, {row[0]: told.get(row) for row in thing}))
-    return found
+    # By each word what a row alone tells is shown, so that only things of several rows have to choose.
+    worths = told_worths(houses, kind)
+    for thing in linked_things:
+        by_house = {row[0]: worths.pop(row) for row in thing if row in worths}
+        worth = chosen(trust, word, by_house)
+        if worth is not None:
+            worths[thing[0]] = worth
+    return worths
 
 
 def one_table(book, rules):
     """The rising list of pairs of a thing and the tuple of the worths shown of it, one for each kind."""
-    all_kinds, all_things = sound_groups(book)
-    shown_of_kinds = [shown_worths(book[0], rules, kind, all_things) for kind in all_kinds]
-    # There is at least one kind, so that this is a row for each thing.
-    rows = list(zip(*shown_of_kinds))
-    return list(zip(all_things, rows))
+    linked_kinds, linked_things = sound_links(book)
+    houses = book[0]
+    all_kinds = all_groups(columns_of(houses), linked_kinds)
+    shown_of_kinds = [shown_worths(houses, rules, kind, linked_things) for kind in all_kinds]
+    all_things = all_groups(rows_of(houses), linked_things)
+    return [(thing, tuple([worths.get(thing[0]) for worths in shown_of_kinds])) for thing in all_things]
 
 
 def are_unlike(told, thing):
@@ -152,7 +145,8 @@ def are_unlike(told, thing):
 
 def at_odds(book):
     """The rising list of (thing, place of a kind) at which unlike worths are told."""
-    all_kinds, all_things = sound_groups(book)
+    linked_kinds, linked_things = sound_links(book)
+    all_kinds = all_groups(columns_of(book[0]), linked_kinds)
     told_of_kinds = [told_worths(book[0], kind) for kind in all_kinds]
-    cells = [(thing, place) for thing in all_things if len(thing) > 1 for place in range(len(all_kinds))]
+    cells = [(thing, place) for thing in sorted(linked_things) for place in range(len(all_kinds))]
     return [(thing, place) for thing, place in cells if are_unlike(told_of_kinds[place], thing)]

@@ -126,6 +126,12 @@ def rules(trust, chosen=""):
     return (tuple(trust.split()), choices(chosen))
 
 
+def ask(text):
+    """An ask whose parts are written column:word:worth, in the order in which they stand."""
+    parts = [part.split(":") for part in text.split()]
+    return tuple([(call(column), word, worth if worth.isalpha() else int(worth)) for column, word, worth in parts])
+
+
 def told_book(*worths):
     """Houses a, b, .. of one kind, each with row 0 and such a worth, all of them one thing."""
     names = "abcd"[:len(worths)]
@@ -199,6 +205,19 @@ def chance_rules(chance, made):
     columns = [(name, column) for name, (own, _) in made[0] for column in own]
     chosen = sorted(chance.sample(columns, chance.randint(0, min(8, len(columns)))))
     return (tuple(trust), tuple([(column, chance.choice(WORDS)) for column in chosen]))
+
+
+ASK_WORDS = ("above", "below", "is", "not")
+
+
+def chance_ask(chance, made):
+    """An ask of a book, made by chance, often with several parts of one kind."""
+    columns = [(name, column) for name, (own, _) in made[0] for column in own]
+    columns = chance.sample(columns, min(len(columns), 2))
+    told = [worth for _, (_, rows) in made[0] for _, row in rows for worth in row if worth is not None]
+    parts = [(chance.choice(columns), chance.choice(ASK_WORDS), chance.choice(told + [1, 2, "x"]))
+             for _ in range(chance.choice((0, 1, 1, 2, 2, 3, 3)))]
+    return tuple(sorted(set(parts), key=lambda part: (part[0], part[1], worth_place(part[2]))))
 
 
 def worth_place(worth):

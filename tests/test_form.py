@@ -1,6 +1,7 @@
 """The interface stands where the document lists it, and the package keeps to the plain form."""
 
 import ast
+import builtins
 import pathlib
 import re
 import unittest
@@ -13,7 +14,12 @@ FUNCTIONS = {
     "least": {"fewest_likes": 2, "fewest_ties": 1},
     "tables": {"are_rules": 2, "one_table": 2, "at_odds": 1},
     "whys": {"why": 4, "sure": 4},
+    "asks": {"is_ask": 2, "shown": 3, "certain": 2, "possible": 2, "total": 4, "ends": 3},
+    "turns": {"turned": 4},
 }
+# With self.
+POOL_METHODS = {"__init__": 1, "__eq__": 2, "come": 3, "put": 4, "out": 3, "like": 3, "tie": 3, "cut": 3, "key": 2,
+                "book": 1}
 CLASSES = ["PoolError", "TooMany", "Odd", "NoThing", "NoKind", "NoName", "Taken", "NoColumns", "Full", "NoHouse",
            "NoRow", "NoColumn", "Same", "NoKey"]
 BARRED_WORDS = re.compile(
@@ -40,6 +46,23 @@ class Interface(unittest.TestCase):
     def test_classes_are_defined_in_their_file(self):
         found = [part.name for part in tree("errors").body if isinstance(part, ast.ClassDef)]
         self.assertEqual(sorted(found), sorted(CLASSES))
+
+    def test_the_pool_has_its_methods_in_its_body(self):
+        pool = [part for part in tree("pools").body if isinstance(part, ast.ClassDef) and part.name == "Pool"][0]
+        found = {part.name: len(part.args.args) for part in pool.body if isinstance(part, ast.FunctionDef)}
+        self.assertEqual({name: found.get(name) for name in POOL_METHODS}, POOL_METHODS)
+        self.assertEqual(pool.bases, [])
+
+
+def bound_names(part):
+    """The names that a part of a file binds: targets, parameters, functions, classes."""
+    for inner in ast.walk(part):
+        if isinstance(inner, ast.Name) and isinstance(inner.ctx, ast.Store):
+            yield inner.id
+        if isinstance(inner, ast.arg):
+            yield inner.arg
+        if isinstance(inner, (ast.FunctionDef, ast.ClassDef)):
+            yield inner.name
 
 
 class Form(unittest.TestCase):
@@ -78,3 +101,28 @@ class Form(unittest.TestCase):
                 if isinstance(part, ast.Constant):
                     self.assertNotIsInstance(part.value, float)
                     self.assertFalse(isinstance(part.value, str) and "%" in part.value)
+                # Pool has its own ==, so that a list stands where a generator expression could.
+                self.assertNotIsInstance(part, ast.GeneratorExp, path.name)
+
+    def test_names_are_plain_and_their_own(self):
+        for path in files():
+            body = ast.parse(path.read_text()).body
+            taken = [name.name for part in body if isinstance(part, ast.ImportFrom) for name in part.names]
+            taken += [part.name for part in body if isinstance(part, ast.ClassDef)]
+            at_top = taken + [part.name for part in body if isinstance(part, ast.FunctionDef)]
+            at_top += [part.targets[0].id for part in body if isinstance(part, ast.Assign)]
+            self.assertEqual(len(at_top), len(set(at_top)), path.name)
+            for part in body:
+                for name in bound_names(part):
+                    self.assertNotIn(name, vars(builtins), path.name)
+                    self.assertTrue(name in POOL_METHODS or not name.startswith("_"), (path.name, name))
+                if isinstance(part, ast.FunctionDef):
+                    self.assertFalse(set(bound_names(part)) & set(taken), (path.name, part.name))
+
+    def test_imports_name_the_file_that_defines_the_name(self):
+        for path in files():
+            for part in ast.parse(path.read_text()).body:
+                if isinstance(part, ast.ImportFrom):
+                    body = tree(part.module.split(".")[1]).body
+                    own = [name for top in body if not isinstance(top, ast.ImportFrom) for name in bound_names(top)]
+                    self.assertFalse([name.name for name in part.names if name.name not in own], path.name)
