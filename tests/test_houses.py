@@ -230,6 +230,12 @@ class Kinds(unittest.TestCase):
         kind = (("ash", "a"), ("ash", "d"), ("elm", "a"), ("oak", "a"), ("yew", "a"))
         self.assertEqual(odd_kinds(WIDE, likes), [kind])
 
+    def test_odd_kinds_that_a_later_like_joins_rise(self):
+        likes = (like("ash.a", "oak.b"), like("ash.b", "oak.c"), like("ash.b", "oak.d"), like("elm.a", "oak.a"),
+                 like("elm.a", "oak.b"))
+        first = (("ash", "a"), ("elm", "a"), ("oak", "a"), ("oak", "b"))
+        self.assertEqual(odd_kinds(WIDE, likes), [first, (("ash", "b"), ("oak", "c"), ("oak", "d"))])
+
     def test_sample(self):
         self.assertEqual(kinds(HOUSES, LIKES), [
             (("elm", "code"), ("oak", "mark")), (("elm", "size"), ("oak", "size")), (("oak", "town"),)])

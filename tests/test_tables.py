@@ -269,6 +269,11 @@ class AtOdds(unittest.TestCase):
         self.assertEqual(at_odds(made), [(calls("a.0 b.0"), 1), (calls("a.1 b.1"), 0), (calls("a.1 b.1"), 1),
                                          (calls("a.2 b.2"), 0)])
 
+    def test_things_by_keys_and_ties_rise(self):
+        houses = (("a", table("p q", r0=(1, 2), r1=(2, 2))), ("b", table("p q", r0=(1, 3), r1=(3, 2))))
+        made = book(houses, "a.p-b.p a.q-b.q", ["a.p"], "a.1-b.1")
+        self.assertEqual(at_odds(made), [(calls("a.0 b.0"), 1), (calls("a.1 b.1"), 0)])
+
     def test_things_apart_are_not_at_odds(self):
         houses = (("a", table("p", r0=(1,))), ("b", table("p", r0=(2,))))
         self.assertEqual(at_odds(book(houses, "a.p-b.p")), [])
@@ -316,6 +321,10 @@ class Refused(unittest.TestCase):
         self.refused(made, calls("elm.a oak.r oak.s"))
         made = book(houses, "", (), "elm.1-oak.0 elm.1-oak.1 elm.0-oak.2 elm.0-oak.3")
         self.refused(made, calls("elm.0 oak.2 oak.3"))
+        # What is told by keys comes ahead of what is told by ties just where it is less.
+        houses = (("elm", table("a", r0=(1,), r1=(None,))),
+                  ("oak", table("a", r0=(1,), r1=(1,), r2=(None,), r3=(None,))))
+        self.refused(book(houses, "elm.a-oak.a", ["elm.a"], "elm.1-oak.2 elm.1-oak.3"), calls("elm.0 oak.0 oak.1"))
 
     def test_a_thing_that_is_odd_by_a_key_and_a_tie(self):
         self.refused(BOOK, calls("elm.0 oak.1 oak.7"))

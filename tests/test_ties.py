@@ -288,6 +288,13 @@ class Things(unittest.TestCase):
         self.assertEqual(things(made), [calls("a.0 b.0"), odd[1], calls("b.2")])
         self.assertEqual(odd_things(made), [odd[1]])
 
+    def test_odd_things_by_keys_and_ties_rise(self):
+        houses = (("a", table("x", r0=(1,), r1=(None,))),
+                  ("b", table("x", r0=(1,), r1=(1,), r2=(None,), r3=(None,))))
+        for cuts in ("", "a.0-b.2"):
+            made = book(houses, "a.x-b.x", ["a.x"], "a.1-b.2 a.1-b.3", cuts)
+            self.assertEqual(odd_things(made), [calls("a.0 b.0 b.1"), calls("a.1 b.2 b.3")])
+
     def test_a_cut_pair_may_still_hang_together(self):
         made = book(bare("a.0 b.0 c.0"), ties="a.0-b.0 a.0-c.0 b.0-c.0", cuts="a.0-b.0")
         self.assertEqual(things(made), [calls("a.0 b.0 c.0")])
