@@ -132,9 +132,11 @@ def possible(book, ask):
 def total(book, rules, ask, column):
     """The sum of a kind's numbers over all things that meet the ask, by the worths shown."""
     linked_kinds, linked_things = sound_links(book)
-    lots = shown_lots(book[0], rules, tests_by_kind(linked_kinds, ask), linked_things)
-    worths = shown_worths(book[0], rules, group_with(linked_kinds, column), linked_things)
-    for lot in lots:
+    tests_of = tests_by_kind(linked_kinds, ask)
+    kind = group_with(linked_kinds, column)
+    # The worth that is added must itself meet what is asked of its kind.
+    worths = meeting(shown_worths(book[0], rules, kind, linked_things), tests_of.pop(kind, []))
+    for lot in shown_lots(book[0], rules, tests_of, linked_things):
         worths = {row: worths[row] for row in worths if row in lot}
     return sum([worth for worth in worths.values() if isinstance(worth, int)])
 
@@ -158,7 +160,6 @@ def ends(book, ask, column):
     tests_of = tests_by_kind(linked_kinds, ask)
     kind = group_with(linked_kinds, column)
     told = told_worths(book[0], kind)
-    # The worth that is added must itself meet what is asked of its kind.
     met = meeting(told, tests_of.pop(kind, []))
     lots = told_lots(book[0], tests_of, linked_things)
     least = greatest = 0
